@@ -1,0 +1,1 @@
+"""Lednames: tables in which names are led on to other names."""
