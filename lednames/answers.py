@@ -1,4 +1,7 @@
-"""Answers, and how rows tell them."""
+"""What answers are, and how rows tell them."""
+
+from lednames.errors import BadAnswer
+from lednames.names import is_number
 
 NOTHING = ("nothing",)
 ROUND = ("round",)
@@ -10,3 +13,22 @@ def answer_by(table, number):
     if number is None:
         return NOTHING
     return ("thing", table.rows[number].thing)
+
+
+def is_thing(answer):
+    return answer[0] == "thing"
+
+
+def is_answer(value):
+    if not isinstance(value, (list, tuple)) or not all([isinstance(part, (str, int)) for part in value]):
+        return False
+    if len(value) == 2:
+        return value[0] == "thing" and is_number(value[1])
+    return tuple(value) in (NOTHING, ROUND, GROWS)
+
+
+def checked_answer(answer):
+    """Return an answer as a tuple; raise BadAnswer for what is none."""
+    if not is_answer(answer):
+        raise BadAnswer()
+    return tuple(answer)

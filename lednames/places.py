@@ -22,13 +22,10 @@ class Run:
         self.done = 0
         # The node to which the labels that are done have led; its own Lead is still to be followed.
         self.reached = ROOT
-        # How often the Lead of each node has been followed.
-        self.leads = {}
+        # The nodes whose Leads have been followed, in order, each with the number of labels done by then.
+        self.leads = []
         # Where the labels have led when all that can be read is done.
         self.place = None
-
-    def count_lead(self, node):
-        self.leads[node] = self.leads.get(node, 0) + 1
 
     def step(self, tree, node):
         """Read the next label at a node that has no Lead."""
@@ -48,6 +45,10 @@ class Reader:
         # For each node with a Lead that is known: the place, and how often each row is used on the way to it.
         self.places = {}
         self.uses = {}
+        # Only if its place is not endless: how its target has been read, and the number of moves to the place.
+        # A run stands here behind all those whose Leads it has followed.
+        self.runs = {}
+        self.moves = {}
 
     def read_labels(self, labels):
         """Return the run that has read these labels, with more left behind them."""
@@ -71,6 +72,14 @@ class Reader:
     def lead_at(self, node):
         return self.table.tree.row_at(node, LEAD)
 
+    def place_at(self, node):
+        """Return where one stands at a node with labels left."""
+        if self.lead_at(node) is None:
+            return ("node", node)
+        if node not in self.places:
+            self.read_labels(self.table.tree.name_of(node))
+        return self.places[node]
+
     def go_on(self, run):
         """Read on to the run's place; return False at a Lead that is not known yet."""
         while run.place is None:
@@ -78,7 +87,7 @@ class Reader:
             if self.lead_at(run.reached) is not None:
                 if run.reached not in self.places:
                     return False
-                run.count_lead(run.reached)
+                run.leads.append((run.reached, run.done))
                 place = self.places[run.reached]
             if place[0] != "node" or run.done == len(run.labels):
                 run.place = place
@@ -91,6 +100,9 @@ class Reader:
         uses[self.lead_at(run.node)] = 1
         self.places[run.node] = run.place
         self.uses[run.node] = uses
+        if run.place[0] not in ("round", "grows"):
+            self.runs[run.node] = run
+            self.moves[run.node] = 1 + sum([self.moves[node] for node, done in run.leads])
 
     def keep_endless(self, waiting):
         """Keep what becomes of runs the last of which has come to the Lead of one that waits for it."""
@@ -104,8 +116,11 @@ class Reader:
 
     def uses_of(self, run):
         """Return how often each row is used by the moves of a run, by the rows' numbers."""
+        followed = {}
+        for node, done in run.leads:
+            followed[node] = followed.get(node, 0) + 1
         total = {}
-        for node, times in run.leads.items():
+        for node, times in followed.items():
             for number, many in self.uses[node].items():
                 total[number] = total.get(number, 0) + times * many
         return total

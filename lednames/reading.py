@@ -44,11 +44,8 @@ def find_answer(table, name):
     reader = Reader(table)
     uses = {}
     while True:
-        kind, node = ("end", ROOT)
-        if name:
-            run = reader.read_labels(name[:-1])
-            add_uses(uses, reader.uses_of(run))
-            kind, node = last_step(table.tree, run.place, name[-1])
+        (kind, node), more = find_end(reader, name)
+        add_uses(uses, more)
         number = other_at(table, kind, node)
         if number is None:
             return told_at(table, kind, node, uses)
@@ -57,6 +54,14 @@ def find_answer(table, name):
             return (ROUND, None)
         uses[number] = 1
         name = table.rows[number].target
+
+
+def find_end(reader, name):
+    """Return where a name ends, ahead of its Other, and how often each row is used on the way."""
+    if not name:
+        return (("end", ROOT), {})
+    run = reader.read_labels(name[:-1])
+    return (last_step(reader.table.tree, run.place, name[-1]), reader.uses_of(run))
 
 
 def add_uses(uses, more):

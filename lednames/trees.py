@@ -28,6 +28,13 @@ class Tree:
             node = self.below[node][label]
         return node
 
+    def node_of(self, name):
+        """Return the node of a name that is there."""
+        node = ROOT
+        for label in name:
+            node = self.below[node][label]
+        return node
+
     def new_node(self, above, label):
         self.above.append(above)
         self.label.append(label)

@@ -1,8 +1,12 @@
-"""The examples of the document that use nothing but errors, tables, moving and reading."""
+"""The examples of the document that use nothing but modules that are there already."""
 
 import unittest
 
+from lednames.counting import count_names, first_name, name_at
 from lednames.errors import BadRow, BadTable
+from lednames.far import far_answer, far_moves, growth_of, ring_of
+from lednames.least import count_normal, is_least, least_count, least_parts
+from lednames.likeness import idle_rows, unlike_name
 from lednames.moving import next_of, walk_of
 from lednames.reading import answer_of, count_moves, place_of, row_uses
 from lednames.tables import Lead, Rest, Stop, Table, Thing, nodes_of
@@ -56,6 +60,46 @@ class ExamplesTest(unittest.TestCase):
     def test_many_moves(self):
         rows = [Lead(['abcdefghijklmnopqrst'[k]], ['abcdefghijklmnopqrst'[k + 1]] * 2) for k in range(19)]
         self.assertEqual(count_moves(Table(rows + [Lead(['t'], [])]), ['a', 'z']) == 2 ** 20 - 1, True)
+
+    def test_ring_of_and_growth_of(self):
+        table = Table([Lead(['x'], ['x', 'x']), Lead(['y'], ['z']), Lead(['z'], ['y']), Lead(['w'], ['y'])])
+        self.assertEqual(
+            (ring_of(table, ['w', 'k']), growth_of(table, ['x', 'k']), growth_of(table, ['w', 'k'])),
+            ((1, 2), 1, None))
+
+    def test_far_names(self):
+        table = Table([Lead(['x'], []), Thing(['k'], 7)])
+        word = [(['x'], 10 ** 20), (['k'], 1)]
+        self.assertEqual((far_answer(table, word), far_moves(table, word) == 10 ** 20), (('thing', 7), True))
+
+    def test_unlike_name(self):
+        table = Table([Lead(['x'], ['y']), Thing(['y', 'z'], 1), Rest(['y'], 2)])
+        self.assertEqual(
+            unlike_name(table, Table([Thing(['y', 'z'], 1), Thing(['x', 'z'], 1), Rest(['x'], 2), Rest(['y'], 3)])),
+            ('y', 'a'))
+
+    def test_idle_rows(self):
+        self.assertEqual(
+            idle_rows(Table([Thing(['a'], 1), Stop(['a', 'b']), Stop(['c'])])) == [Stop(['c']), Stop(['a', 'b'])],
+            True)
+
+    def test_least_number_of_rows(self):
+        rows = [Thing(['a', 'x'], 1), Thing(['a', 'y'], 2), Thing(['b', 'x'], 1), Thing(['b', 'y'], 2)]
+        table = Table(rows)
+        self.assertEqual((least_count(table), least_parts(table), count_normal(table)), (3, (2, 0, 0, 2, 2), 2))
+
+    def test_is_least(self):
+        self.assertEqual(
+            (is_least(Table([Thing(['x'], 1), Lead(['x'], [])])), least_count(Table([Rest([], 1), Stop(['a'])])),
+             least_count(Table([]))),
+            (True, 2, 0))
+
+    def test_names_with_an_answer(self):
+        table = Table([Thing(['x'], 1), Lead(['x'], [])])
+        self.assertEqual(
+            (first_name(table, ('thing', 1)), count_names(table, ['x', 'y'], 5, ('thing', 1)),
+             name_at(table, ['y', 'x'], 2, ('nothing',), 1)),
+            (('x',), 1, ('y', 'x')))
 
 
 if __name__ == "__main__":

@@ -1,0 +1,70 @@
+"""Comparing two machines, to find the least name with unlike answers."""
+
+from lednames.labels import first_unmarked
+from lednames.machines import behind
+
+
+class Pairs:
+    """Pairs of states of two machines to which a name leads, in the order of the least such names.
+
+    A state is a number, or the answer that all names have from there on.
+    """
+
+    def __init__(self):
+        self.pairs = [(0, 0)]
+        # For each pair, the number of the pair ahead of it and the label between them.
+        self.came = [(-1, "")]
+        # States that would have to be alike if all pairs are, joined to groups: for each one, another one of its group.
+        self.joined = {(0, 0): (1, 0)}
+
+    def first_of(self, key):
+        """Return the state that stands for the group of this one."""
+        while key in self.joined:
+            after = self.joined[key]
+            if after in self.joined:
+                self.joined[key] = self.joined[after]
+            key = after
+        return key
+
+    def add_pair(self, one, two, at, label):
+        """Add a pair behind the one at `at`, unless it is alike if those that are there already are."""
+        first, second = (self.first_of((0, one)), self.first_of((1, two)))
+        if first != second:
+            self.joined[first] = second
+            self.pairs.append((one, two))
+            self.came.append((at, label))
+
+    def name_to(self, at):
+        labels = []
+        while self.came[at][0] >= 0:
+            at, label = self.came[at]
+            labels.append(label)
+        return tuple(labels[::-1])
+
+
+def first_unlike(one, two, labels):
+    """Return the least name of these labels with unlike answers by two machines; None if there is none."""
+    if one.own != two.own:
+        return ()
+    found = Pairs()
+    at = 0
+    while at < len(found.pairs):
+        first, second = found.pairs[at]
+        for label in labels_known(one, first, two, second, labels):
+            answer, state = behind(one, first, label)
+            told, other = behind(two, second, label)
+            if answer != told:
+                return found.name_to(at) + (label,)
+            found.add_pair(state, other, at, label)
+        at += 1
+    return None
+
+
+def labels_known(one, first, two, second, labels):
+    """Return the labels by which one of the states goes on otherwise than by most, and the first other one."""
+    known = {}
+    for machine, state in ((one, first), (two, second)):
+        if not isinstance(state, tuple):
+            known.update({label: True for label in machine.edges[state]})
+    known[first_unmarked(labels, known)] = True
+    return sorted(known)
