@@ -30,21 +30,32 @@ class WordReader:
 
     def __init__(self, table):
         self.reader = Reader(table)
-        # For a node and a label: the place behind it, and the moves to there.
+        # For a node and a label, and for a node and a name: the place behind it, and the moves to there.
         self.known = {}
         # A Lead at the root is followed without an end, so there are no moves to count.
         self.place = self.reader.place_at(ROOT)
         self.moves = 0
 
     def read_name(self, name):
-        for label in name:
-            if self.place[0] != "node":
-                return
-            key = (self.place[1], label)
+        if self.place[0] == "node":
+            key = (self.place[1], name)
             if key not in self.known:
-                self.known[key] = self.label_read(key[0], label)
+                self.known[key] = self.name_read(self.place, name)
             self.place, moves = self.known[key]
             self.moves += moves
+
+    def name_read(self, place, name):
+        """Return the place behind a name that is read from a place on, and the moves to there."""
+        total = 0
+        for label in name:
+            if place[0] != "node":
+                break
+            key = (place[1], label)
+            if key not in self.known:
+                self.known[key] = self.label_read(place[1], label)
+            place, moves = self.known[key]
+            total += moves
+        return (place, total)
 
     def label_read(self, node, label):
         """Return the place behind a label, and the moves to there."""

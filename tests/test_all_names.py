@@ -12,6 +12,7 @@ from lednames.reading import place_of
 from lednames.tables import Lead, Other, Rest, Stop, Table, Thing
 from tests.plain import plain_move, plain_walk
 from tests.test_against_plain import ASKED, names_of, some_tables
+from tests.test_least import plain_trees
 
 NOTHING = ("nothing",)
 ANSWERS = [("thing", 0), ("thing", 1), ("thing", 2), NOTHING, ("round",), ("grows",)]
@@ -29,6 +30,18 @@ def labels_of(*tables):
 
 def plain_answers(table, names):
     return {name: plain_walk(table.rows, name)[0] for name in names}
+
+
+def graph_of(rows):
+    """Return the edges between the homes of a normal table, told from its rows."""
+    homes = sorted({row.name[:length] for row in rows for length in range(len(row.name))} | {()})
+    edges = [{} for home in homes]
+    pairs = [(home[:-1], home) for home in homes[1:]]
+    pairs += [(row.name[:-1], row.target) for row in rows if isinstance(row, Lead) and row.target in homes]
+    for before, after in pairs:
+        at, to = homes.index(before), homes.index(after)
+        edges[at][to] = edges[at].get(to, 0) + 1
+    return edges
 
 
 class FarTest(unittest.TestCase):
@@ -123,6 +136,25 @@ class ClassesTest(unittest.TestCase):
                 self.assertEqual(least_parts(least), least_parts(table))
                 self.assertEqual(count_normal(least), count_normal(table))
                 self.check_growing(table, least)
+
+    def test_numbers_of_normal_tables(self):
+        source = random.Random(4)
+        names = names_of("abc", 3)
+        numbers = {}
+        for _ in range(200):
+            rows = []
+            while len(rows) < 9:
+                lead = Lead(source.choice(names), source.choice(names))
+                row = source.choice([lead, lead, Thing(source.choice(names), 1)])
+                try:
+                    Table(rows + [row])
+                except ValueError:
+                    continue
+                rows.append(row)
+            number = count_normal(Table(rows))
+            self.assertEqual(number, plain_trees(graph_of(least_table(Table(rows)).rows)))
+            numbers[number] = True
+        self.assertGreater(len(numbers), 5)
 
     def check_growing(self, table, least):
         """The target of each Other that grows is the label a behind the least name below which all names grow."""
