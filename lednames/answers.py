@@ -19,6 +19,13 @@ def is_thing(answer):
     return answer[0] == "thing"
 
 
+def answer_order(answer):
+    """Return the key by which answers are put in order: things first, by their numbers."""
+    if is_thing(answer):
+        return (0, answer[1])
+    return ((NOTHING, ROUND, GROWS).index(answer) + 1, 0)
+
+
 def is_answer(value):
     if not isinstance(value, (list, tuple)) or not all([isinstance(part, (str, int)) for part in value]):
         return False

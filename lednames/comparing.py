@@ -1,7 +1,7 @@
 """Comparing two machines, to find the least name with unlike answers."""
 
-from lednames.labels import first_unmarked
-from lednames.machines import behind
+from lednames.labels import labels_to_ask
+from lednames.machines import behind, labels_at
 
 
 class Pairs:
@@ -34,12 +34,14 @@ class Pairs:
             self.pairs.append((one, two))
             self.came.append((at, label))
 
-    def name_to(self, at):
-        labels = []
-        while self.came[at][0] >= 0:
-            at, label = self.came[at]
-            labels.append(label)
-        return tuple(labels[::-1])
+
+def name_to(came, at):
+    """Return the name that leads to the entry at `at`, with the entry ahead of each one and the label between them."""
+    labels = []
+    while came[at][0] >= 0:
+        at, label = came[at]
+        labels.append(label)
+    return tuple(labels[::-1])
 
 
 def first_unlike(one, two, labels):
@@ -50,21 +52,11 @@ def first_unlike(one, two, labels):
     at = 0
     while at < len(found.pairs):
         first, second = found.pairs[at]
-        for label in labels_known(one, first, two, second, labels):
+        for label in labels_to_ask(labels, labels_at(one, first) + labels_at(two, second)):
             answer, state = behind(one, first, label)
             told, other = behind(two, second, label)
             if answer != told:
-                return found.name_to(at) + (label,)
+                return name_to(found.came, at) + (label,)
             found.add_pair(state, other, at, label)
         at += 1
     return None
-
-
-def labels_known(one, first, two, second, labels):
-    """Return the labels by which one of the states goes on otherwise than by most, and the first other one."""
-    known = {}
-    for machine, state in ((one, first), (two, second)):
-        if not isinstance(state, tuple):
-            known.update({label: True for label in machine.edges[state]})
-    known[first_unmarked(labels, known)] = True
-    return sorted(known)

@@ -3,7 +3,7 @@
 from lednames.answers import checked_answer
 from lednames.classes import classes_of, least_homes
 from lednames.errors import BadLabels, NoPlace
-from lednames.labels import first_unmarked, labels_asked
+from lednames.labels import labels_asked, labels_to_ask
 from lednames.machines import behind
 from lednames.names import is_label, is_number
 
@@ -18,7 +18,7 @@ def first_name(table, answer):
     homes = least_homes(classes)
     # The classes are in the order of these names.
     for state, edges in enumerate(classes.edges):
-        for label in sorted(list(edges) + [first_unmarked(labels, edges)]):
+        for label in labels_to_ask(labels, edges):
             if behind(classes, state, label)[0] == answer:
                 return homes[state] + (label,)
     return None

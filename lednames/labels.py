@@ -33,6 +33,13 @@ def label_of(number):
     return letters
 
 
+def labels_to_ask(labels, marked):
+    """Return the marked labels, and the first of the labels that is not one, in order."""
+    asked = {label: True for label in marked}
+    asked[first_unmarked(labels, asked)] = True
+    return sorted(asked)
+
+
 def first_unmarked(labels, marked):
     """Return the first of the labels that is not a marked one."""
     for label in labels:

@@ -98,6 +98,11 @@ def behind(machine, state, label):
     return machine.edges[state].get(label, (left, left))
 
 
+def labels_at(machine, state):
+    """Return the labels by which a state goes on otherwise than by most, as a list."""
+    return [] if isinstance(state, tuple) else list(machine.edges[state])
+
+
 def behind_name(machine, name):
     """Return the answer of a name, and the state behind it."""
     answer, state = (machine.own, 0)

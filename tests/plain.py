@@ -6,6 +6,8 @@ Only for small tables: a name of more than LONG labels is taken for one that gro
 from lednames.tables import Lead, Other, Rest, Stop, Thing
 
 LONG = 150
+# Names on the way that are to be asked of another table are followed as far as this many labels.
+LONG_ON_THE_WAY = 45
 KINDS = (Thing, Other, Lead, Rest, Stop)
 
 
@@ -77,3 +79,30 @@ def plain_place(rows, name):
     if last[-1:] == ("q",) and is_node(rows, last[:-1]):
         return ("node", last[:-1])
     return ("all", answer)
+
+
+def plain_torn(rows, others, name, known):
+    """Return the answers to which a name can come if so many moves go by the rows and all later ones by the others.
+
+    `known` is a dict, in which answers by the others are kept from one call to the next.
+    """
+    answers = {plain_walk(rows, name)[0]: True}
+    seen = set()
+    answer = None
+    while answer is None and name not in seen and len(name) <= LONG_ON_THE_WAY:
+        seen.add(name)
+        if name not in known:
+            known[name] = plain_walk(others, name)[0]
+        answers[known[name]] = True
+        name, answer, row = plain_move(rows, name)
+    return sorted(answers, key=answer_place)
+
+
+def answer_place(answer):
+    return (["thing", "nothing", "round", "grows"].index(answer[0]), answer[1:])
+
+
+def labels_of(*tables):
+    """Return the labels of rows and the first one that stands in none, in order."""
+    labels = {label for table in tables for row in table.rows for label in row.name + getattr(row, "target", ())}
+    return sorted(labels | {next(label for label in "abcdefgh" if label not in labels)})

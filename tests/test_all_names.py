@@ -10,7 +10,7 @@ from lednames.least import (count_normal, flat_table, is_least, least_count, lea
 from lednames.likeness import idle_rows, unlike_name
 from lednames.reading import place_of
 from lednames.tables import Lead, Other, Rest, Stop, Table, Thing
-from tests.plain import plain_move, plain_walk
+from tests.plain import labels_of, plain_move, plain_walk
 from tests.test_against_plain import ASKED, names_of, some_tables
 from tests.test_least import plain_trees
 
@@ -20,12 +20,6 @@ ANSWERS = [("thing", 0), ("thing", 1), ("thing", 2), NOTHING, ("round",), ("grow
 
 def expand(word):
     return tuple(label for name, times in word for label in name * times)
-
-
-def labels_of(*tables):
-    """Return the labels of rows and the first one that stands in none, in order."""
-    labels = {label for table in tables for row in table.rows for label in row.name + getattr(row, "target", ())}
-    return sorted(labels | {next(label for label in "abcdefgh" if label not in labels)})
 
 
 def plain_answers(table, names):

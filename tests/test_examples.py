@@ -1,15 +1,19 @@
-"""The examples of the document that use nothing but modules that are there already."""
+"""The examples of the document, all of them."""
 
 import unittest
 
+from lednames.changes import Drop, Put, Swap, safe_order
 from lednames.counting import count_names, first_name, name_at
-from lednames.errors import BadRow, BadTable
+from lednames.desk import Desk
+from lednames.errors import BadRow, BadTable, BadText
 from lednames.far import far_answer, far_moves, growth_of, ring_of
-from lednames.least import count_normal, is_least, least_count, least_parts
+from lednames.least import count_normal, flat_table, is_least, least_count, least_parts, least_table
+from lednames.ledtexts import read_table, table_text
 from lednames.likeness import idle_rows, unlike_name
 from lednames.moving import next_of, walk_of
 from lednames.reading import answer_of, count_moves, place_of, row_uses
 from lednames.tables import Lead, Rest, Stop, Table, Thing, nodes_of
+from lednames.tearing import torn_answers, torn_name
 
 
 class ExamplesTest(unittest.TestCase):
@@ -88,11 +92,19 @@ class ExamplesTest(unittest.TestCase):
         table = Table(rows)
         self.assertEqual((least_count(table), least_parts(table), count_normal(table)), (3, (2, 0, 0, 2, 2), 2))
 
+    def test_least_table(self):
+        rows = [Thing(['a', 'x'], 1), Thing(['a', 'y'], 2), Thing(['b', 'x'], 1), Thing(['b', 'y'], 2)]
+        self.assertEqual(table_text(least_table(Table(rows))), 'lead b a; thing a.x 1; thing a.y 2')
+
     def test_is_least(self):
         self.assertEqual(
             (is_least(Table([Thing(['x'], 1), Lead(['x'], [])])), least_count(Table([Rest([], 1), Stop(['a'])])),
              least_count(Table([]))),
             (True, 2, 0))
+
+    def test_flat_table(self):
+        table = Table([Lead(['x'], ['y']), Thing(['y', 'z'], 1), Rest(['y'], 2)])
+        self.assertEqual(table_text(flat_table(table)), 'rest x 2; rest y 2; thing x.z 1; thing y.z 1')
 
     def test_names_with_an_answer(self):
         table = Table([Thing(['x'], 1), Lead(['x'], [])])
@@ -100,6 +112,31 @@ class ExamplesTest(unittest.TestCase):
             (first_name(table, ('thing', 1)), count_names(table, ['x', 'y'], 5, ('thing', 1)),
              name_at(table, ['y', 'x'], 2, ('nothing',), 1)),
             (('x',), 1, ('y', 'x')))
+
+    def test_torn_names(self):
+        one = Table([Lead(['a'], ['b']), Thing(['b', 'c'], 1)])
+        other = Table([Lead(['a'], ['d']), Thing(['d', 'c'], 1)])
+        self.assertEqual(
+            (torn_answers(one, other, ['a', 'c']), torn_name(one, other)),
+            ([('thing', 1), ('nothing',)], (('a', 'c'), ('nothing',))))
+
+    def test_safe_order(self):
+        table = Table([Lead(['a'], ['b']), Thing(['b', 'c'], 1)])
+        changes = [Drop(Thing(['b', 'c'], 1)), Swap(Lead(['a'], ['b']), Lead(['a'], ['d'])), Put(Thing(['d', 'c'], 1))]
+        self.assertEqual(safe_order(table, changes), [2, 1, 0])
+
+    def test_bad_text(self):
+        with self.assertRaises(BadText) as caught:
+            read_table('thing . 1; lead a')
+        self.assertEqual(caught.exception.place, 1)
+
+    def test_desk(self):
+        desk = Desk()
+        desk.tell('put lead x x.x')
+        desk.tell('put thing a.b 5')
+        self.assertEqual(
+            (desk.tell('ask x.k'), desk.tell('moves x.k'), desk.tell('first thing 5'), desk.tell('put lead x y')),
+            (['grows'], ['none'], ['a.b'], ['refused badtable']))
 
 
 if __name__ == "__main__":
